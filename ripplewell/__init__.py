@@ -1,0 +1,1 @@
+"""Ripplewell: a reactive runtime."""
