@@ -42,6 +42,11 @@ def text_of(value):
     return str(value)
 
 
+def cut(text):
+    """Return a text without what is too long for a value."""
+    return text[:LONGEST_TEXT]
+
+
 def is_empty(value):
     """Tell whether a value is empty: None, False, 0 or the empty string."""
     return not value

@@ -1,7 +1,9 @@
 """Point [2], and the form of the package: what its files may contain and use."""
 
 import ast
+import builtins
 import pathlib
+import re
 import unittest
 import warnings
 
@@ -22,6 +24,11 @@ BARRED_NAMES = {
 }
 
 
+BARRED_WORDS = re.compile(
+    r"\b(register|elements|open|input|law|mro|typing|enum|Enum|Generic|Protocol|ABC|namedtuple|NamedTuple|TypedDict"
+    r"|abstractmethod|print|chr|float|global|async|await)\b|dataclass|overload|contextmanager|__slots__|_wall")
+
+
 def files():
     return sorted(PACKAGE.rglob("*.py"))
 
@@ -33,7 +40,7 @@ def nodes_of(path):
 class PackageTest(unittest.TestCase):
     def test_there_are_files(self):
         names = [path.name for path in files()]
-        for name in ("__init__.py", "errors.py", "values.py"):
+        for name in ("__init__.py", "errors.py", "values.py", "readings.py", "programs.py", "runtimes.py"):
             self.assertIn(name, names)
 
     def test_the_folder_contains_python_files_only(self):
@@ -78,6 +85,83 @@ class PackageTest(unittest.TestCase):
                 self.assertNotIsInstance(node, (ast.AsyncFunctionDef, ast.Await, ast.Global), path)
                 if isinstance(node, ast.FunctionDef):
                     self.assertLessEqual(node.end_lineno - node.lineno + 1, 40, (path, node.name))
+
+    def test_words_that_do_not_occur(self):
+        for path in files():
+            for at, line in enumerate(path.read_text(encoding="utf-8").splitlines(), 1):
+                self.assertIs(BARRED_WORDS.search(line), None, (path, at))
+                if re.search(r"\btype\b", line):
+                    self.assertRegex(line, r"type\([a-z\[\]0-9.]+\) (==|!=) (int|str|list|tuple|dict)\b", (path, at))
+
+    def test_a_module_holds_definitions_and_plain_values(self):
+        for path in files():
+            for node in ast.parse(path.read_text(encoding="utf-8")).body:
+                if isinstance(node, ast.Assign):
+                    self.assertEqual(len(node.targets), 1, path)
+                    for part in ast.walk(node.value):
+                        self.assertIsInstance(part, (ast.Constant, ast.Tuple, ast.Dict, ast.Name, ast.Load), path)
+                elif isinstance(node, ast.Expr):
+                    self.assertIsInstance(node.value, ast.Constant, path)
+                else:
+                    self.assertIsInstance(node, (ast.ImportFrom, ast.FunctionDef, ast.ClassDef), path)
+
+    def test_each_name_is_bound_once_and_hides_nothing(self):
+        for path in files():
+            bound = names_of_module(path)
+            self.assertEqual(len(bound), len(set(bound)), path)
+            barred = set(imports_of(path)) | set(dir(builtins))
+            for node in nodes_of(path):
+                if isinstance(node, (ast.FunctionDef, ast.Lambda)):
+                    self.assertEqual(locals_of(node) & barred, set(), (path, node.lineno))
+
+    def test_no_name_is_a_method_and_an_attribute(self):
+        methods, attributes = set(), set()
+        for path in files():
+            for node in nodes_of(path):
+                if isinstance(node, ast.ClassDef):
+                    methods |= {part.name for part in node.body if isinstance(part, ast.FunctionDef)}
+                if isinstance(node, ast.Attribute) and isinstance(node.ctx, ast.Store):
+                    attributes.add(node.attr)
+        self.assertEqual(methods & attributes, set())
+
+    def test_no_two_files_import_from_each_other(self):
+        edges = {path.stem: {node.module.split(".")[-1] for node in nodes_of(path) if isinstance(node, ast.ImportFrom)}
+                 for path in files()}
+        while edges:
+            free = [name for name in edges if not edges[name] & set(edges)]
+            self.assertTrue(free, edges)
+            for name in free:
+                del edges[name]
+
+    def test_only_own_errors_are_caught(self):
+        for path in files():
+            for node in nodes_of(path):
+                if isinstance(node, ast.ExceptHandler):
+                    self.assertEqual(node.type.id, "RippleError", path)
+
+
+def names_of_module(path):
+    found = imports_of(path)
+    for node in ast.parse(path.read_text(encoding="utf-8")).body:
+        if isinstance(node, (ast.FunctionDef, ast.ClassDef)):
+            found.append(node.name)
+        if isinstance(node, ast.Assign):
+            found.append(node.targets[0].id)
+    return found
+
+
+def imports_of(path):
+    return [alias.name for node in nodes_of(path) if isinstance(node, ast.ImportFrom) for alias in node.names]
+
+
+def locals_of(function):
+    found = {argument.arg for argument in function.args.args}
+    for node in ast.walk(function):
+        if isinstance(node, ast.Name) and isinstance(node.ctx, (ast.Store, ast.Del)):
+            found.add(node.id)
+        if isinstance(node, ast.ExceptHandler) and node.name:
+            found.add(node.name)
+    return found
 
 
 if __name__ == "__main__":
