@@ -52,7 +52,6 @@ class Core:
     def restore(self, state):
         """Make an earlier state the present one."""
         self.now = state
-        self.begin()
         self.current = {}
 
     def mark(self):

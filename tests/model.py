@@ -647,7 +647,7 @@ class Model:
 
     def subscribe(self, node):
         self.keep(copy.deepcopy(self.world))
-        self.world["watches"].append({"node": node, "last": None, "waiting": [], "closed": False})
+        self.world["watches"].append({"node": node, "last": None, "waiting": [], "closed": False, "pulls": []})
         return len(self.world["watches"]) - 1
 
     def pull(self, subscription):
@@ -656,6 +656,7 @@ class Model:
         watch = self.world["watches"][subscription]
         pull = len(self.world["answers"])
         self.world["answers"].append(None)
+        watch["pulls"].append(pull)
         if watch["closed"]:
             self.world["answers"][pull] = ("end",)
         elif watch["waiting"]:

@@ -73,13 +73,34 @@ class Four:
         if given == ("result", False) and method in ("respond", "reject"):
             self.alike(before, after)
         check_what_holds(self.test, self.kept)
+        if method != "undo":
+            for old, new in zip(before["nodes"], after["nodes"]):
+                self.test.assertFalse(new[2] and not old[2], "disposed nodes stay disposed")
+        self.check_requests(model)
         self.check_subscriptions()
 
+    def check_requests(self, model):
+        """Every active resource has requested its present key, if it has one."""
+        for number, (kind, _, active) in enumerate(self.kept.nodes()):
+            key = model.computed_reading(number) if kind == "resource" and active else ("value", None)
+            if key[0] == "value" and key[1] is not None:
+                self.alike(self.kept.requests()[model.node(number)["latest"]], key[1])
+
     def check_subscriptions(self):
+        """Pulls are answered in order, no two reports in a row are the same, and no pull waits in vain."""
         other = copy.deepcopy(self.kept)
         for watch in self.models[0].world["watches"]:
-            if watch["waiting"]:
-                self.alike(other.reading(("value", watch["node"])), watch["last"])
+            answers = [self.kept.answer(pull) for pull in watch["pulls"]]
+            reports = [answer for answer in answers if answer is not None and answer != ("end",)]
+            waiting = [answer for answer in answers if answer is None]
+            ends = len(answers) - len(reports) - len(waiting)
+            self.alike(answers, reports + [("end",)] * ends + waiting)
+            self.test.assertFalse(ends and waiting)
+            for one, two in zip(reports, reports[1:]):
+                self.test.assertNotEqual(exact(one), exact(two))
+            if waiting:
+                self.test.assertFalse(other.is_disposed(watch["node"]))
+                self.alike(other.reading(("value", watch["node"])), reports[-1])
 
     # What the rows ask of a runtime.
 

@@ -42,7 +42,8 @@ NO_PROGRAMS = [None, 1, "a", (), {}, [None], [()], [("emit", 1)], [["emit", ("va
 NO_SETTINGS = [None, 1, "a", (), [], [("a", 1)], {"A": 1}, {"": 1}, {1: 1}, {None: 1}, {"abcdefghi": 1}, {"a": -1},
                {"a": 1000}, {"a": "x" * 41}, {"a": []}, {"a": ()}, {"a": ("node",)}, {"a": ("node", 99)},
                {"a": ("node", -1)}, {"a": ("node", True)}, {"a": ("node", None)}, {"a": ("node", "0")},
-               {"a": ("node", 1, 2)}, {"a": ["node", 1]}, {"a": ("value", 1)}, {"a": ("context", 9)},
+               {"a": ("node", 1, 2)}, {"a": ["node", 1]}, {"a": ("value", 1)}, {"a": ("value", 0)}, {"a": (Odd(), 0)},
+               {"a": ("signal", 0)}, {"a": ("context", 0, 0)}, {"a": ("context", 9)},
                {"a": ("context", -1)}, {"a": ("context", False)}, {"a": ("context", "x")}, {"a": ("context",)},
                {"a": (1, 1)}, {"a": (["node"], 1)}, {"a": 1, "b": None, "c": 1.5}, {("a",): 1}, Odd(), {"a": Odd()}]
 NO_MESSAGES = [None, 1, True, "x" * 41, b"a", (), [], ("error", "a"), Odd()]

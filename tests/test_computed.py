@@ -155,6 +155,24 @@ class RunsTest(ComputedTest):
         self.assertEqual(self.runtime.read(number), 2 ** 21 % 1000)
         self.assertEqual(self.runtime.runs(), [])
 
+    def test_nodes_that_read_all_earlier_ones_are_checked_once(self):
+        numbers = {"a": self.signal}
+        for at in range(18):
+            program = [("let", "total", ("value", 1))]
+            program += [("let", "total", ("add", var("total"), read(name))) for name in sorted(numbers)]
+            number = self.runtime.computed(0, program + [give(var("total"))], names(**numbers))
+            numbers["bcdefghijklmnopqrst"[at]] = number
+        looks = []
+        core = self.runtime._calls.core
+        look = core.look
+        core.look = lambda source: (looks.append(source), look(source))[1]
+        self.runtime.read(number)
+        self.runtime.emit(0, 1)
+        self.runtime.write(self.signal, 2)
+        self.runtime.read(number)
+        self.assertEqual(len(self.runtime.runs()), 18)
+        self.assertLess(len(looks), 1000)
+
     def test_a_long_chain_of_deep_programs(self):
         for runtime in (Runtime(), PlainRuntime()):
             number = runtime.signal(0, 1)

@@ -53,6 +53,11 @@ class TurnsTest(EffectTest):
         self.runtime.write(self.s, True)
         self.assertEqual(repr(self.runtime.runs()), repr([(number, changed(self.s, 1, True))]))
 
+    def test_the_first_node_behind_the_root_has_its_turn(self):
+        runtime = Both()
+        self.assertEqual(runtime.effect(0, [emit(1)], {}), 1)
+        self.assertEqual(runtime.delivered(), [1])
+
     def test_turns_are_in_the_order_of_the_numbers(self):
         program = [("effect", "one", [emit(1)]), ("effect", "two", [emit(2)]), ("scope", "x"),
                    ("effect", "tri", [emit(3)])]
@@ -172,6 +177,21 @@ class WritesTest(EffectTest):
         self.runtime.effect(boundary, [fail("x")], {})
         self.effect(("reset", "b"), emit(read("b")), b=boundary)
         self.assertEqual(self.runtime.delivered(), ["error x", None])
+
+    def test_each_write_is_made_once(self):
+        store = self.runtime.store(0, [("a", 1)])
+        moving = [("remove", "p", value("a")), ("put", "p", value("a"), V)]
+        self.effect(("if", ("equal", read("s"), value(5)), moving + [("write", "t", value("next"))], []), p=store)
+        self.effect(("if", ("equal", read("t"), value("next")), [("put", "p", value("b"), V)], []), p=store)
+        self.runtime.write(self.s, 5)
+        self.assertEqual(self.runtime.keys(store), ["a", "b"])
+
+    def test_writes_of_a_propagation_that_failed_are_forgotten(self):
+        self.effect(("if", ("equal", read("s"), value(5)), [("write", "u", value("lost")), fail("x")], []), u=self.u)
+        self.fails("error x", "write", self.s, 5)
+        self.runtime.write(self.t, 3)
+        self.runtime.write(self.s, 6)
+        self.assertEqual(self.runtime.read(self.u), 0)
 
     def test_writes_in_a_block_that_failed_are_made(self):
         self.effect(("try", [("write", "u", value(3)), emit("a"), ("signal", "y", V), fail("x")], "m", []), u=self.u)

@@ -59,6 +59,11 @@ class StatesTest(ResourceTest):
         self.assertIs(self.runtime.reject(0, "again"), False)
         self.stands(number, "failed", ("error", "no such thing"))
 
+    def test_a_long_message(self):
+        number = self.resource(give("key"))
+        self.assertIs(self.runtime.reject(0, "x" * 40), True)
+        self.stands(number, "failed", ("error", "x" * 40))
+
     def test_an_empty_message(self):
         number = self.resource(give("key"))
         self.runtime.reject(0, "")
