@@ -1,6 +1,7 @@
 """What the tests share: short words for programs, and two runtimes that are called alike."""
 
 import copy
+import unittest
 
 from ripplewell.errors import RippleError
 from ripplewell.readings import same
@@ -107,6 +108,18 @@ class Both:
         for name in one:
             if exact(one[name]) != exact(two[name]):
                 raise AssertionError(f"{name} behind {method}{arguments}: {one[name]}, plainly {two[name]}")
+
+
+class CallTest(unittest.TestCase):
+    """A test whose runtime is a Both."""
+
+    def fails(self, message, method, *arguments):
+        """Make a call that has to raise an error, and to change nothing."""
+        before = everything(self.runtime.kept)
+        with self.assertRaises(RippleError) as caught:
+            getattr(self.runtime, method)(*arguments)
+        self.assertEqual(caught.exception.message, message)
+        self.assertEqual(everything(self.runtime.kept), before)
 
 
 def told(runtime):

@@ -5,7 +5,7 @@ import unittest
 from ripplewell.errors import RippleError
 from ripplewell.runtimes import Runtime
 
-from helping import Both, check_what_holds, emit, fail, give, names, read, value, var
+from helping import Both, check_what_holds, emit, fail, give, names, read, value
 
 FIRST = ("first",)
 V = value(1)

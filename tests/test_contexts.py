@@ -4,10 +4,10 @@ import unittest
 
 from ripplewell.errors import RippleError
 
-from helping import Both, emit, everything, fail, give, names, value
+from helping import Both, CallTest, emit, fail, give, names, value
 
 
-class ContextTest(unittest.TestCase):
+class ContextTest(CallTest):
     def setUp(self):
         self.runtime = Both()
         self.c = self.runtime.context("default")
@@ -16,13 +16,6 @@ class ContextTest(unittest.TestCase):
         found = names(**numbers)
         found["c"] = ("context", self.c)
         return found
-
-    def fails(self, message, method, *arguments):
-        before = everything(self.runtime.kept)
-        with self.assertRaises(RippleError) as caught:
-            getattr(self.runtime, method)(*arguments)
-        self.assertEqual(caught.exception.message, message)
-        self.assertEqual(everything(self.runtime.kept), before)
 
     def test_numbers_and_defaults(self):
         self.assertEqual(self.c, 0)

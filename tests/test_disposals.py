@@ -2,9 +2,7 @@
 
 import unittest
 
-from ripplewell.errors import RippleError
-
-from helping import Both, attempt, check_what_holds, emit, everything, names, read, value, var
+from helping import Both, CallTest, attempt, check_what_holds, emit, names, read, value, var
 
 FIRST = ("first",)
 V = value(1)
@@ -14,7 +12,7 @@ def when(number, *statements):
     return ("if", ("equal", read("s"), value(number)), list(statements), [])
 
 
-class DisposalTest(unittest.TestCase):
+class DisposalTest(CallTest):
     def setUp(self):
         self.runtime = Both()
         self.s = self.runtime.signal(0, 0)
@@ -24,13 +22,6 @@ class DisposalTest(unittest.TestCase):
 
     def active(self):
         return [number for number, entry in enumerate(self.runtime.nodes()) if entry[2]]
-
-    def fails(self, message, method, *arguments):
-        before = everything(self.runtime.kept)
-        with self.assertRaises(RippleError) as caught:
-            getattr(self.runtime, method)(*arguments)
-        self.assertEqual(caught.exception.message, message)
-        self.assertEqual(everything(self.runtime.kept), before)
 
     def tearDown(self):
         check_what_holds(self, self.runtime.kept)

@@ -4,7 +4,7 @@ import unittest
 
 from ripplewell.errors import RippleError
 
-from helping import Both, attempt, emit, everything, fail, give, names, read, value, var
+from helping import Both, CallTest, attempt, emit, everything, fail, give, names, read, value, var
 
 FIRST = ("first",)
 V = value(1)
@@ -14,7 +14,7 @@ def changed(number, old, new, word="value"):
     return ("changed", (word, number), ("value", old), ("value", new))
 
 
-class EffectTest(unittest.TestCase):
+class EffectTest(CallTest):
     def setUp(self):
         self.runtime = Both()
         self.s = self.runtime.signal(0, 1)
@@ -25,13 +25,6 @@ class EffectTest(unittest.TestCase):
 
     def both_signals(self, s, t):
         self.runtime.transaction(0, [("write", "s", value(s)), ("write", "t", value(t))], names(s=self.s, t=self.t))
-
-    def fails(self, message, method, *arguments):
-        before = everything(self.runtime.kept)
-        with self.assertRaises(RippleError) as caught:
-            getattr(self.runtime, method)(*arguments)
-        self.assertEqual(caught.exception.message, message)
-        self.assertEqual(everything(self.runtime.kept), before)
 
 
 class TurnsTest(EffectTest):

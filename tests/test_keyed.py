@@ -2,10 +2,9 @@
 
 import unittest
 
-from ripplewell.errors import RippleError
 from ripplewell.runtimes import Runtime
 
-from helping import Both, check_what_holds, emit, everything, fail, give, names, node, read, value, var
+from helping import Both, CallTest, check_what_holds, emit, fail, give, names, node, read, value, var
 
 FIRST = ("first",)
 
@@ -14,7 +13,7 @@ def keys_changed(store, old, new):
     return ("changed", ("keys", store), ("keys", tuple(old)), ("keys", tuple(new)))
 
 
-class KeyedTest(unittest.TestCase):
+class KeyedTest(CallTest):
     def setUp(self):
         self.runtime = Both()
         self.store = self.runtime.store(0, [("a", 1), ("b", 2)])
@@ -28,13 +27,6 @@ class KeyedTest(unittest.TestCase):
 
     def members(self, number):
         return [at for at, entry in enumerate(self.runtime.nodes()) if entry == ("effect", number, True)]
-
-    def fails(self, message, method, *arguments):
-        before = everything(self.runtime.kept)
-        with self.assertRaises(RippleError) as caught:
-            getattr(self.runtime, method)(*arguments)
-        self.assertEqual(caught.exception.message, message)
-        self.assertEqual(everything(self.runtime.kept), before)
 
     def tearDown(self):
         check_what_holds(self, self.runtime.kept)

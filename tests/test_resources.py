@@ -2,16 +2,15 @@
 
 import unittest
 
-from ripplewell.errors import RippleError
 from ripplewell.runtimes import Runtime
 
-from helping import Both, check_what_holds, emit, everything, fail, give, names, read, value, var
+from helping import Both, CallTest, check_what_holds, emit, everything, fail, give, names, read, value, var
 
 FIRST = ("first",)
 V = value(1)
 
 
-class ResourceTest(unittest.TestCase):
+class ResourceTest(CallTest):
     def setUp(self):
         self.runtime = Both()
         self.s = self.runtime.signal(0, None)
@@ -23,13 +22,6 @@ class ResourceTest(unittest.TestCase):
         self.assertEqual(self.runtime.state(number), state)
         self.assertEqual(self.runtime.reading(("state", number)), ("value", state))
         self.assertEqual(repr(self.runtime.reading(("value", number))), repr(reading))
-
-    def fails(self, message, method, *arguments):
-        before = everything(self.runtime.kept)
-        with self.assertRaises(RippleError) as caught:
-            getattr(self.runtime, method)(*arguments)
-        self.assertEqual(caught.exception.message, message)
-        self.assertEqual(everything(self.runtime.kept), before)
 
     def tearDown(self):
         check_what_holds(self, self.runtime.kept)
